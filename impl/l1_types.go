@@ -1,0 +1,289 @@
+package impl
+
+import "strings"
+
+// Type is a node of a type.
+type Type struct {
+	Kind int
+	Kids []Type
+}
+
+// Kinds of types, and a limit.
+const (
+	TypeAny      = 1
+	TypeInt      = 2
+	TypeBool     = 3
+	TypeFun      = 4
+	TypePair     = 5
+	MaxTypeDepth = 4
+)
+
+// typeSigns holds the sign of each kind of type in texts, in the order of the kinds, which begin at 1.
+const typeSigns = "?IB>*"
+
+// TypeValid reports whether t is valid.
+func TypeValid(t Type) bool { return validWithin(t, MaxTypeDepth) }
+
+// TypeSame reports whether a and b are equal.
+func TypeSame(a Type, b Type) bool {
+	// Invalid types may be of any depth and may even contain themselves. A list
+	// of open pairs in place of recursion, and a note of those already compared,
+	// make the comparison end for these, too.
+	seen := map[typePair]bool{}
+	open := []typePair{{&a, &b}}
+	for len(open) > 0 {
+		p := open[len(open)-1]
+		open = open[:len(open)-1]
+		if p.a == p.b || seen[p] {
+			continue
+		}
+		if p.a.Kind != p.b.Kind || len(p.a.Kids) != len(p.b.Kids) {
+			return false
+		}
+		seen[p] = true
+		for i := range p.a.Kids {
+			open = append(open, typePair{&p.a.Kids[i], &p.b.Kids[i]})
+		}
+	}
+	return true
+}
+
+// FormatType returns the text of t.
+func FormatType(t Type) string {
+	if !TypeValid(t) {
+		return ""
+	}
+	var out strings.Builder
+	writeType(&out, t)
+	return out.String()
+}
+
+// ParseType parses the text of a type.
+func ParseType(text string) (Type, bool) {
+	c := cursor{text: text}
+	t, ok := c.readType(MaxTypeDepth)
+	if !ok || !c.atEnd() {
+		return Type{}, false
+	}
+	return t, true
+}
+
+// Consistent reports whether a and b agree where both are known.
+func Consistent(a Type, b Type) bool {
+	return TypeValid(a) && TypeValid(b) && walkTwo(a, b, eitherUnknown, allHold)
+}
+
+// Precise reports whether a is at least as precise as b.
+func Precise(a Type, b Type) bool {
+	return TypeValid(a) && TypeValid(b) && walkTwo(a, b, secondUnknown, allHold)
+}
+
+// MeetTypes returns the least precise type that is at least as precise as a and b.
+func MeetTypes(a Type, b Type) (Type, bool) {
+	if !Consistent(a, b) {
+		return Type{}, false
+	}
+	return walkTwo(a, b, copyKnown, buildType), true
+}
+
+// JoinTypes returns the most precise type that a and b are at least as precise as.
+func JoinTypes(a Type, b Type) (Type, bool) {
+	if !TypeValid(a) || !TypeValid(b) {
+		return Type{}, false
+	}
+	return walkTwo(a, b, unknownForBoth, buildType), true
+}
+
+// GroundOf returns the ground type of a type.
+func GroundOf(t Type) (Type, bool) {
+	if !TypeValid(t) || t.Kind == TypeAny {
+		return Type{}, false
+	}
+	var kids []Type
+	if n := len(t.Kids); n > 0 {
+		kids = make([]Type, n)
+	}
+	for i := range kids {
+		kids[i].Kind = TypeAny
+	}
+	return Type{Kind: t.Kind, Kids: kids}, true
+}
+
+// IsStatic reports whether a type has no unknown part.
+func IsStatic(t Type) bool { return TypeValid(t) && countUnknown(t) == 0 }
+
+// TypeDepth returns the depth of a type.
+func TypeDepth(t Type) int {
+	if !TypeValid(t) {
+		return 0
+	}
+	return depthOfType(t)
+}
+
+// CountAny returns the number of unknown parts of a type.
+func CountAny(t Type) int {
+	if !TypeValid(t) {
+		return 0
+	}
+	return countUnknown(t)
+}
+
+// typePair is a pair of nodes to be compared, known by their places in memory.
+type typePair struct{ a, b *Type }
+
+// typeOperands returns the number of operands of a kind of type, or -1 for a kind that does not exist.
+func typeOperands(kind int) int {
+	switch kind {
+	case TypeAny, TypeInt, TypeBool:
+		return 0
+	case TypeFun, TypePair:
+		return 2
+	}
+	return -1
+}
+
+// validWithin reports whether t is valid with a depth of at most depth.
+// The bound also ends the recursion for a type that contains itself.
+func validWithin(t Type, depth int) bool {
+	if depth < 1 || len(t.Kids) != typeOperands(t.Kind) {
+		return false
+	}
+	for _, kid := range t.Kids {
+		if !validWithin(kid, depth-1) {
+			return false
+		}
+	}
+	return true
+}
+
+// walkTwo goes through two valid types side by side. Where one of them is
+// unknown or their kinds differ, the result is that of apart; everywhere else,
+// build makes it from the kind and the results for the operands.
+func walkTwo[R any](a Type, b Type, apart func(a Type, b Type) R, build func(kind int, parts []R) R) R {
+	if a.Kind != b.Kind || a.Kind == TypeAny {
+		return apart(a, b)
+	}
+	var parts []R
+	if n := len(a.Kids); n > 0 {
+		parts = make([]R, n)
+	}
+	for i := range parts {
+		parts[i] = walkTwo(a.Kids[i], b.Kids[i], apart, build)
+	}
+	return build(a.Kind, parts)
+}
+
+func eitherUnknown(a Type, b Type) bool { return a.Kind == TypeAny || b.Kind == TypeAny }
+
+func secondUnknown(_ Type, b Type) bool { return b.Kind == TypeAny }
+
+func allHold(_ int, parts []bool) bool {
+	for _, holds := range parts {
+		if !holds {
+			return false
+		}
+	}
+	return true
+}
+
+// copyKnown returns the one of two consistent types that is known, if either is.
+func copyKnown(a Type, b Type) Type {
+	if a.Kind == TypeAny {
+		return copyType(b)
+	}
+	return copyType(a)
+}
+
+func unknownForBoth(_ Type, _ Type) Type { return Type{Kind: TypeAny} }
+
+func buildType(kind int, parts []Type) Type { return Type{Kind: kind, Kids: parts} }
+
+// copyType returns the valid type t in new memory.
+func copyType(t Type) Type { return walkTwo(t, t, unknownForBoth, buildType) }
+
+func countUnknown(t Type) int {
+	if t.Kind == TypeAny {
+		return 1
+	}
+	count := 0
+	for _, kid := range t.Kids {
+		count += countUnknown(kid)
+	}
+	return count
+}
+
+func depthOfType(t Type) int {
+	deepest := 0
+	for _, kid := range t.Kids {
+		deepest = max(deepest, depthOfType(kid))
+	}
+	return 1 + deepest
+}
+
+func writeType(out *strings.Builder, t Type) {
+	sign := typeSigns[t.Kind-1]
+	if len(t.Kids) == 0 {
+		out.WriteByte(sign)
+		return
+	}
+	out.WriteByte('(')
+	writeType(out, t.Kids[0])
+	out.WriteByte(sign)
+	writeType(out, t.Kids[1])
+	out.WriteByte(')')
+}
+
+// cursor is a place in a text that is read from left to right.
+type cursor struct {
+	text string
+	at   int
+}
+
+func (c *cursor) atEnd() bool { return c.at == len(c.text) }
+
+// next returns the byte at the cursor and moves past it. At the end it returns
+// 0, which no text of this program contains.
+func (c *cursor) next() byte {
+	if c.atEnd() {
+		return 0
+	}
+	c.at++
+	return c.text[c.at-1]
+}
+
+// readType reads a type with a depth of at most depth. The bound also keeps a
+// long text from making the recursion deep.
+func (c *cursor) readType(depth int) (Type, bool) {
+	if depth < 1 {
+		return Type{}, false
+	}
+	sign := c.next()
+	if sign == '(' {
+		return c.readOperands(depth - 1)
+	}
+	kind := kindOfSign(sign)
+	if typeOperands(kind) != 0 {
+		return Type{}, false
+	}
+	return Type{Kind: kind}, true
+}
+
+// readOperands reads what follows the opening parenthesis of a type.
+func (c *cursor) readOperands(depth int) (Type, bool) {
+	left, ok := c.readType(depth)
+	if !ok {
+		return Type{}, false
+	}
+	kind := kindOfSign(c.next())
+	if typeOperands(kind) != 2 {
+		return Type{}, false
+	}
+	right, ok := c.readType(depth)
+	if !ok || c.next() != ')' {
+		return Type{}, false
+	}
+	return Type{Kind: kind, Kids: []Type{left, right}}, true
+}
+
+// kindOfSign returns the kind of type with a sign in texts, or 0 if there is none.
+func kindOfSign(sign byte) int { return strings.IndexByte(typeSigns, sign) + 1 }
