@@ -25,28 +25,7 @@ const typeSigns = "?IB>*"
 func TypeValid(t Type) bool { return validWithin(t, MaxTypeDepth) }
 
 // TypeSame reports whether a and b are equal.
-func TypeSame(a Type, b Type) bool {
-	// Invalid types may be of any depth and may even contain themselves. A list
-	// of open pairs in place of recursion, and a note of those already compared,
-	// make the comparison end for these, too.
-	seen := map[typePair]bool{}
-	open := []typePair{{&a, &b}}
-	for len(open) > 0 {
-		p := open[len(open)-1]
-		open = open[:len(open)-1]
-		if p.a == p.b || seen[p] {
-			continue
-		}
-		if p.a.Kind != p.b.Kind || len(p.a.Kids) != len(p.b.Kids) {
-			return false
-		}
-		seen[p] = true
-		for i := range p.a.Kids {
-			open = append(open, typePair{&p.a.Kids[i], &p.b.Kids[i]})
-		}
-	}
-	return true
-}
+func TypeSame(a Type, b Type) bool { return compareTypes().same(&a, &b) }
 
 // FormatType returns the text of t.
 func FormatType(t Type) string {
@@ -128,8 +107,50 @@ func CountAny(t Type) int {
 	return countUnknown(t)
 }
 
-// typePair is a pair of nodes to be compared, known by their places in memory.
-type typePair struct{ a, b *Type }
+// nodePair is a pair of nodes to be compared, known by their places in memory.
+type nodePair[N any] struct{ a, b *N }
+
+// comparison compares nodes with all that is below them. What was found alike
+// once is not compared again, by any comparison with the same seen.
+type comparison[N any] struct {
+	seen  map[nodePair[N]]bool
+	kids  func(n *N) []N
+	alike func(a, b *N) bool
+}
+
+// same reports whether the nodes at a and b have the same operands, at every
+// level, and all of them are alike. Invalid nodes may be of any depth and may
+// even contain themselves: a list of open pairs in place of recursion, and a
+// note of those already compared, make the comparison end for these, too.
+func (c comparison[N]) same(a, b *N) bool {
+	open := []nodePair[N]{{a, b}}
+	for len(open) > 0 {
+		p := open[len(open)-1]
+		open = open[:len(open)-1]
+		if p.a == p.b || c.seen[p] {
+			continue
+		}
+		left, right := c.kids(p.a), c.kids(p.b)
+		if len(left) != len(right) || !c.alike(p.a, p.b) {
+			return false
+		}
+		if len(left) > 0 {
+			c.seen[p] = true
+		}
+		for i := range left {
+			open = append(open, nodePair[N]{&left[i], &right[i]})
+		}
+	}
+	return true
+}
+
+func compareTypes() comparison[Type] {
+	return comparison[Type]{
+		seen:  map[nodePair[Type]]bool{},
+		kids:  func(t *Type) []Type { return t.Kids },
+		alike: func(a, b *Type) bool { return a.Kind == b.Kind },
+	}
+}
 
 // typeOperands returns the number of operands of a kind of type, or -1 for a kind that does not exist.
 func typeOperands(kind int) int {
@@ -241,14 +262,22 @@ type cursor struct {
 
 func (c *cursor) atEnd() bool { return c.at == len(c.text) }
 
-// next returns the byte at the cursor and moves past it. At the end it returns
-// 0, which no text of this program contains.
-func (c *cursor) next() byte {
+// peek returns the byte at the cursor. At the end it returns 0, which no text
+// of this program contains.
+func (c *cursor) peek() byte {
 	if c.atEnd() {
 		return 0
 	}
-	c.at++
-	return c.text[c.at-1]
+	return c.text[c.at]
+}
+
+// next returns what peek does and moves past it, unless the cursor is at the end.
+func (c *cursor) next() byte {
+	sign := c.peek()
+	if !c.atEnd() {
+		c.at++
+	}
+	return sign
 }
 
 // readType reads a type with a depth of at most depth. The bound also keeps a
