@@ -495,6 +495,7 @@ func expectNoTerm(t *testing.T, what string, bad impl.Term) {
 			t.Errorf("%s: SubstTerm = %v, %v", what, e, ok)
 		}
 	}
+	expectNoTyping(t, what, bad)
 }
 
 // oneOfEach returns a valid term of each kind from 1 to 13.
