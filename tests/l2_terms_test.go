@@ -90,7 +90,7 @@ func operands(kind int) int {
 	switch kind {
 	case impl.TermVar, impl.TermNum, impl.TermTrue, impl.TermFalse:
 		return 0
-	case impl.TermLam, impl.TermFst, impl.TermSnd, impl.TermAs:
+	case impl.TermLam, impl.TermFst, impl.TermSnd, impl.TermAs, impl.TermCast:
 		return 1
 	case impl.TermIf:
 		return 3
@@ -139,6 +139,7 @@ func textOf(e impl.Term) string {
 		impl.TermFst:   "$" + a,
 		impl.TermSnd:   "%" + a,
 		impl.TermAs:    "(" + a + ":" + impl.FormatType(e.Type) + ")",
+		impl.TermCast:  "(" + a + ":" + impl.FormatType(e.From) + "~" + impl.FormatType(e.Type) + "#" + strconv.Itoa(e.Label) + ")",
 	}[e.Kind]
 }
 
@@ -155,6 +156,9 @@ func deepTerm(kind int, index int, depth int) impl.Term {
 		}
 		if kind == impl.TermLam || kind == impl.TermAs {
 			e.Type = intType
+		}
+		if kind == impl.TermCast {
+			e.From, e.Type, e.Label = intType, intType, 1
 		}
 	}
 	return e
@@ -496,6 +500,7 @@ func expectNoTerm(t *testing.T, what string, bad impl.Term) {
 		}
 	}
 	expectNoTyping(t, what, bad)
+	expectNoInsertion(t, what, bad)
 }
 
 // oneOfEach returns a valid term of each kind from 1 to 13.
@@ -507,72 +512,87 @@ func oneOfEach() []impl.Term {
 	}
 }
 
+// changesOf returns changes of a node that make it invalid, both as a term and as a term with casts.
+func changesOf(good impl.Term) map[string]func(e *impl.Term) {
+	changes := map[string]func(e *impl.Term){
+		"kind 0":              func(e *impl.Term) { e.Kind = 0 },
+		"kind -1":             func(e *impl.Term) { e.Kind = -1 },
+		"kind 15":             func(e *impl.Term) { e.Kind = 15 },
+		"a large kind":        func(e *impl.Term) { e.Kind = 1<<63 - 1 },
+		"source operands":     func(e *impl.Term) { e.From.Kids = []impl.Type{{}} },
+		"another operand":     func(e *impl.Term) { e.Kids = append(e.Kids, num(1)) },
+		"a negative number":   func(e *impl.Term) { e.Num = -1 },
+		"a large number":      func(e *impl.Term) { e.Num = 1000 },
+		"operands of no type": func(e *impl.Term) { e.Type = impl.Type{Kids: []impl.Type{anyType, anyType}} },
+		"an unknown type":     func(e *impl.Term) { e.Type = impl.Type{Kind: 6} },
+		"a long name":         func(e *impl.Term) { e.Name = "xy" },
+		"an uppercase name":   func(e *impl.Term) { e.Name = "X" },
+		"a name below a":      func(e *impl.Term) { e.Name = "`" },
+		"a name above z":      func(e *impl.Term) { e.Name = "{" },
+		"a digit as a name":   func(e *impl.Term) { e.Name = "1" },
+		"a name of two bytes": func(e *impl.Term) { e.Name = "é" },
+		"a zero byte":         func(e *impl.Term) { e.Name = "\x00" },
+		"a name with a space": func(e *impl.Term) { e.Name = "x " },
+	}
+	if n := len(good.Kids); n > 0 {
+		changes["an operand less"] = func(e *impl.Term) { e.Kids = e.Kids[:n-1] }
+		changes["an invalid operand"] = func(e *impl.Term) { e.Kids[n-1] = impl.Term{} }
+	}
+	if good.Kind == impl.TermVar || good.Kind == impl.TermLam {
+		changes["no name"] = func(e *impl.Term) { e.Name = "" }
+	} else {
+		changes["a name"] = func(e *impl.Term) { e.Name = "x" }
+	}
+	if good.Kind == impl.TermLam || good.Kind == impl.TermAs || good.Kind == impl.TermCast {
+		changes["no type"] = func(e *impl.Term) { e.Type = impl.Type{} }
+		changes["a type that is too deep"] = func(e *impl.Term) { e.Type = leftChain(5) }
+		changes["a type that contains itself"] = func(e *impl.Term) { e.Type = selfType(impl.TypeFun, 2) }
+	} else {
+		changes["a type"] = func(e *impl.Term) { e.Type = anyType }
+	}
+	if good.Kind != impl.TermNum {
+		changes["a number"] = func(e *impl.Term) { e.Num = 1 }
+	}
+	if good.Kind != impl.TermCast {
+		changes["a source type"] = func(e *impl.Term) { e.From = anyType }
+		changes["a label"] = func(e *impl.Term) { e.Label = 1 }
+		changes["a negative label"] = func(e *impl.Term) { e.Label = -1 }
+	}
+	return changes
+}
+
+// expectInvalid changes a node and calls expect with the result, alone and in other terms.
+func expectInvalid(t *testing.T, good impl.Term, changes map[string]func(e *impl.Term), expect func(t *testing.T, what string, bad impl.Term)) {
+	t.Helper()
+	for what, change := range changes {
+		bad := good
+		bad.Kids = slices.Clone(good.Kids)
+		change(&bad)
+		what = "kind " + strconv.Itoa(good.Kind) + ", " + what
+		expect(t, what, bad)
+		expect(t, what+", below a pair", node(impl.TermPair, num(1), bad))
+		expect(t, what+", in a function", lam("x", anyType, node(impl.TermSnd, bad)))
+	}
+}
+
 func TestInvalidNodes(t *testing.T) {
 	for _, good := range oneOfEach() {
 		if !impl.TermValid(good) {
 			t.Errorf("kind %d is not accepted", good.Kind)
 		}
-		changes := map[string]func(e *impl.Term){
-			"kind 0":              func(e *impl.Term) { e.Kind = 0 },
-			"kind -1":             func(e *impl.Term) { e.Kind = -1 },
-			"kind 14":             func(e *impl.Term) { e.Kind = impl.TermCast },
-			"kind 15":             func(e *impl.Term) { e.Kind = 15 },
-			"a large kind":        func(e *impl.Term) { e.Kind = 1<<63 - 1 },
-			"a source type":       func(e *impl.Term) { e.From = anyType },
-			"source operands":     func(e *impl.Term) { e.From.Kids = []impl.Type{{}} },
-			"a label":             func(e *impl.Term) { e.Label = 1 },
-			"a negative label":    func(e *impl.Term) { e.Label = -1 },
-			"another operand":     func(e *impl.Term) { e.Kids = append(e.Kids, num(1)) },
-			"a negative number":   func(e *impl.Term) { e.Num = -1 },
-			"a large number":      func(e *impl.Term) { e.Num = 1000 },
-			"operands of no type": func(e *impl.Term) { e.Type = impl.Type{Kids: []impl.Type{anyType, anyType}} },
-			"an unknown type":     func(e *impl.Term) { e.Type = impl.Type{Kind: 6} },
-			"a long name":         func(e *impl.Term) { e.Name = "xy" },
-			"an uppercase name":   func(e *impl.Term) { e.Name = "X" },
-			"a name below a":      func(e *impl.Term) { e.Name = "`" },
-			"a name above z":      func(e *impl.Term) { e.Name = "{" },
-			"a digit as a name":   func(e *impl.Term) { e.Name = "1" },
-			"a name of two bytes": func(e *impl.Term) { e.Name = "é" },
-			"a zero byte":         func(e *impl.Term) { e.Name = "\x00" },
-			"a name with a space": func(e *impl.Term) { e.Name = "x " },
+		changes := changesOf(good)
+		changes["kind 14"] = func(e *impl.Term) { e.Kind = impl.TermCast }
+		changes["a cast"] = func(e *impl.Term) { *e = castOf(*e, intType, anyType, 1) }
+		if len(good.Kids) > 0 {
+			changes["a cast as an operand"] = func(e *impl.Term) { e.Kids[0] = castOf(num(1), intType, anyType, 1) }
 		}
-		if n := len(good.Kids); n > 0 {
-			changes["an operand less"] = func(e *impl.Term) { e.Kids = e.Kids[:n-1] }
-			changes["an invalid operand"] = func(e *impl.Term) { e.Kids[n-1] = impl.Term{} }
-			changes["a cast as an operand"] = func(e *impl.Term) {
-				e.Kids[0] = impl.Term{Kind: impl.TermCast, From: intType, Type: anyType, Label: 1, Kids: []impl.Term{num(1)}}
-			}
-		}
-		if good.Kind == impl.TermVar || good.Kind == impl.TermLam {
-			changes["no name"] = func(e *impl.Term) { e.Name = "" }
-		} else {
-			changes["a name"] = func(e *impl.Term) { e.Name = "x" }
-		}
-		if good.Kind == impl.TermLam || good.Kind == impl.TermAs {
-			changes["no type"] = func(e *impl.Term) { e.Type = impl.Type{} }
-			changes["a type that is too deep"] = func(e *impl.Term) { e.Type = leftChain(5) }
-			changes["a type that contains itself"] = func(e *impl.Term) { e.Type = selfType(impl.TypeFun, 2) }
-		} else {
-			changes["a type"] = func(e *impl.Term) { e.Type = anyType }
-		}
-		if good.Kind != impl.TermNum {
-			changes["a number"] = func(e *impl.Term) { e.Num = 1 }
-		}
-		for what, change := range changes {
-			bad := good
-			bad.Kids = slices.Clone(good.Kids)
-			change(&bad)
-			what = "kind " + strconv.Itoa(good.Kind) + ", " + what
-			expectNoTerm(t, what, bad)
-			expectNoTerm(t, what+", below a pair", node(impl.TermPair, num(1), bad))
-			expectNoTerm(t, what+", in a function", lam("x", anyType, node(impl.TermSnd, bad)))
-		}
+		expectInvalid(t, good, changes, expectNoTerm)
 	}
 }
 
 func TestInvalidTerms(t *testing.T) {
 	expectNoTerm(t, "the zero value", impl.Term{})
-	cast := impl.Term{Kind: impl.TermCast, From: intType, Type: anyType, Label: 1, Kids: []impl.Term{num(1)}}
+	cast := castOf(num(1), intType, anyType, 1)
 	expectNoTerm(t, "a cast", cast)
 	expectNoTerm(t, "a cast in a sum", node(impl.TermAdd, cast, num(1)))
 	for _, kind := range []int{impl.TermFst, impl.TermApp, impl.TermIf} {
