@@ -66,6 +66,7 @@ func expectNoInsertion(t *testing.T, what string, bad impl.Term) {
 	if e, x, ok := impl.InsertCasts(bad); ok || !isZeroTerm(e) || !isZero(x) {
 		t.Errorf("%s: InsertCasts = %v, %v, %v", what, e, x, ok)
 	}
+	expectNoRun(t, what, bad)
 }
 
 // expectNoCastTerm checks the result of every function for a term with casts that is not valid.
@@ -85,6 +86,7 @@ func expectNoCastTerm(t *testing.T, what string, bad impl.Term) {
 	if e, ok := impl.BareTerm(bad); ok != impl.TermValid(bad) || !ok && !isZeroTerm(e) {
 		t.Errorf("%s: BareTerm = %v, %v", what, e, ok)
 	}
+	expectNoEvaluation(t, what, bad)
 }
 
 func TestCastExample(t *testing.T) {
