@@ -78,14 +78,7 @@ func GroundOf(t Type) (Type, bool) {
 	if !TypeValid(t) || t.Kind == TypeAny {
 		return Type{}, false
 	}
-	var kids []Type
-	if n := len(t.Kids); n > 0 {
-		kids = make([]Type, n)
-	}
-	for i := range kids {
-		kids[i].Kind = TypeAny
-	}
-	return Type{Kind: t.Kind, Kids: kids}, true
+	return groundOfKind(t.Kind), true
 }
 
 // IsStatic reports whether a type has no unknown part.
@@ -161,6 +154,18 @@ func typeOperands(kind int) int {
 		return 2
 	}
 	return -1
+}
+
+// groundOfKind returns the type of a kind all of whose operands are unknown.
+func groundOfKind(kind int) Type {
+	var kids []Type
+	if n := typeOperands(kind); n > 0 {
+		kids = make([]Type, n)
+	}
+	for i := range kids {
+		kids[i].Kind = TypeAny
+	}
+	return Type{Kind: kind, Kids: kids}
 }
 
 // validWithin reports whether t is valid with a depth of at most depth.
