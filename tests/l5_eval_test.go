@@ -156,6 +156,7 @@ func expectNoEvaluation(t *testing.T, what string, bad impl.Term) {
 			t.Errorf("%s: EvalCast = %s after %d steps", what, got.text(), steps)
 		}
 	}
+	expectNoSpace(t, what, bad)
 }
 
 // expectNoRun checks RunTerm of a term that is not valid or has no type.
@@ -166,6 +167,7 @@ func expectNoRun(t *testing.T, what string, bad impl.Term) {
 			t.Errorf("%s: RunTerm = %q, %d, %d", what, text, code, label)
 		}
 	}
+	expectNoSpaceRun(t, what, bad)
 }
 
 // expectEvaluation compares the steps and the evaluation of a valid term with
