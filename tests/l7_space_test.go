@@ -299,6 +299,7 @@ func expectNoSpace(t *testing.T, what string, bad impl.Term) {
 	if height := impl.TermHeight(bad); height != 0 {
 		t.Errorf("%s: TermHeight = %d", what, height)
 	}
+	expectNoBlame(t, what, bad)
 }
 
 // expectNoSpaceRun checks RunSpace of a term that is not valid or has no type.
