@@ -502,6 +502,7 @@ func expectNoTerm(t *testing.T, what string, bad impl.Term) {
 	expectNoTyping(t, what, bad)
 	expectNoInsertion(t, what, bad)
 	expectNoGuarantee(t, what, bad)
+	expectNoMigration(t, what, bad)
 }
 
 // oneOfEach returns a valid term of each kind from 1 to 13.
