@@ -503,6 +503,8 @@ func expectNoTerm(t *testing.T, what string, bad impl.Term) {
 	expectNoInsertion(t, what, bad)
 	expectNoGuarantee(t, what, bad)
 	expectNoMigration(t, what, bad)
+	expectNoConfigs(t, what, bad, 0, 300)
+	expectNoConfigCasts(t, what, bad)
 }
 
 // oneOfEach returns a valid term of each kind from 1 to 13.

@@ -86,6 +86,9 @@ func expectNoCastTerm(t *testing.T, what string, bad impl.Term) {
 	if e, ok := impl.BareTerm(bad); ok != impl.TermValid(bad) || !ok && !isZeroTerm(e) {
 		t.Errorf("%s: BareTerm = %v, %v", what, e, ok)
 	}
+	if casts := impl.CountCasts(bad); casts != 0 {
+		t.Errorf("%s: CountCasts = %d", what, casts)
+	}
 	expectNoEvaluation(t, what, bad)
 }
 
