@@ -89,6 +89,7 @@ func expectNoCastTerm(t *testing.T, what string, bad impl.Term) {
 	if casts := impl.CountCasts(bad); casts != 0 {
 		t.Errorf("%s: CountCasts = %d", what, casts)
 	}
+	expectNoSimplification(t, what, bad)
 	expectNoEvaluation(t, what, bad)
 }
 
