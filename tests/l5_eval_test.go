@@ -157,6 +157,7 @@ func expectNoEvaluation(t *testing.T, what string, bad impl.Term) {
 		}
 	}
 	expectNoSpace(t, what, bad)
+	expectNoBare(t, what, bad)
 }
 
 // expectNoRun checks RunTerm of a term that is not valid or has no type.
